@@ -1,0 +1,1 @@
+"""Glazework: pictures in layers."""

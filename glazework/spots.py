@@ -6,6 +6,9 @@ x and y the colours above and below.
 
 from glazework.shares import added, at_most_one, divided, is_at_most, is_share, lessened, rest_of, times
 
+MANNERS = ("over", "multiply", "screen", "plus", "atop", "cut")
+RULES = ("turn", "grey", "round")
+CLEAR = ((0, 1), (0, 1), (0, 1), (0, 1))
 THIRD = (1, 3)
 
 

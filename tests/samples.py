@@ -60,15 +60,109 @@ def share(number):
     return (number.numerator, number.denominator)
 
 
-def is_least_share(thing):
-    """Told without the program's own is_share."""
-    if type(thing) is not tuple or [type(part) for part in thing] != [int, int]:
-        return False
-    return thing[1] > 0 and 0 <= thing[0] <= thing[1] and share(fraction(thing)) == thing
+RED = (ONE, ONE, ZERO, ZERO)
+PALE = (HALF, HALF, ZERO, (1, 4))
+DIM = ((2, 3), (1, 3), (1, 2), (2, 3))
 
 
-def is_sound_spot(thing):
-    """Told without the program's own is_spot."""
-    if type(thing) is not tuple or len(thing) != 4 or not all(is_least_share(part) for part in thing):
-        return False
-    return all(fraction(colour) <= fraction(thing[0]) for colour in thing[1:])
+def sheet_of(wide, spots):
+    """A sheet of spots, row by row."""
+    return (wide, len(spots) // wide, tuple(spots))
+
+
+def plain(wide, high, spot=PALE):
+    return (wide, high, (spot,) * (wide * high))
+
+
+# Not as wide as high, and no spot twice: what is mirrored or turned is seen by it.
+BROAD = sheet_of(3, SPOTS[:6])
+
+
+def layer(name, sheet=plain(2, 2), manner="over", strength=ONE, shown=True, left=0, top=0, mask=None):
+    return ("layer", name, manner, strength, shown, left, top, mask, sheet)
+
+
+def group(name, nodes=(), manner="over", strength=ONE, shown=True):
+    return ("group", name, manner, strength, shown, tuple(nodes))
+
+
+def tone(name, rule="turn", strength=ONE, shown=True):
+    return ("tone", name, rule, strength, shown)
+
+
+def picture(wide, high, nodes=()):
+    return (wide, high, tuple(nodes))
+
+
+class Draws:
+    """Numbers that are the same each time, so that a test that fails once fails again."""
+
+    def __init__(self, seed):
+        self.state = seed * 7919 + 12345
+
+    def below(self, many):
+        self.state = (self.state * 6364136223846793005 + 1442695040888963407) % 2 ** 64
+        return (self.state >> 33) % many
+
+    def one_of(self, things):
+        return things[self.below(len(things))]
+
+    def strength(self):
+        return self.one_of((ONE, ONE, ONE, HALF, (1, 3), ZERO))
+
+    def shown(self):
+        return self.below(6) > 0
+
+    def sheet(self, wide, high):
+        kind = self.below(4)
+        if kind == 0:
+            return plain(wide, high, self.one_of((CLEAR, RED, BLACK, WHITE)))
+        spots = (RED, BLACK, WHITE) if kind == 1 else SPOTS[:10]
+        return sheet_of(wide, [self.one_of(spots) for _ in range(wide * high)])
+
+    def layer(self, name, wide, high):
+        if self.below(2):
+            left, top = 0, 0
+        else:
+            left, top = self.below(7) - 3, self.below(7) - 3
+            wide, high = self.below(4) + 1, self.below(4) + 1
+        mask = None
+        if self.below(4) == 0:
+            mask = tuple(self.strength() for _ in range(wide * high))
+        return layer(
+            name, self.sheet(wide, high), self.manner(), self.strength(), self.shown(), left, top, mask,
+        )
+
+    def manner(self):
+        return self.one_of(("over", "over") + MANNERS)
+
+    def node(self, names, wide, high, deepest):
+        name = names.pop(0)
+        kind = self.below(5)
+        if kind == 0:
+            return tone(name, self.one_of(RULES), self.strength(), self.shown())
+        if kind < 3 and deepest > 0:
+            nodes = self.nodes(names, wide, high, deepest - 1)
+            return group(name, nodes, self.manner(), self.strength(), self.shown())
+        return self.layer(name, wide, high)
+
+    def nodes(self, names, wide, high, deepest):
+        return [self.node(names, wide, high, deepest) for _ in range(self.below(4))]
+
+    def picture(self):
+        names = [one + other for one in "abcdefghij" for other in "klmnopqrst"]
+        wide, high = self.below(3) + 1, self.below(3) + 1
+        return picture(wide, high, self.nodes(names, wide, high, 3) + self.nodes(names, wide, high, 2))
+
+
+PICTURES = tuple(Draws(seed).picture() for seed in range(120))
+
+
+def all_nodes(nodes):
+    """Each node with the tuple in which it stands, from the lowest one on."""
+    told = []
+    for node in nodes:
+        told.append((node, nodes))
+        if node[0] == "group":
+            told.extend(all_nodes(node[5]))
+    return told

@@ -6,46 +6,11 @@ import unittest
 from fractions import Fraction
 
 from glazework.spots import blended, is_spot, levels, straight, toned, weighted
+from bydocument import blended_by_document, is_sound_spot, toned_by_document
 from samples import (
     BLACK, CLEAR, HALF, HUGE, MANNERS, ONE, OTHER_THINGS, RULES, SPOTS, STRENGTHS, WHITE, ZERO,
-    fraction, fractions_of, is_sound_spot, share,
+    fraction, fractions_of, share,
 )
-
-
-def blended_by_document(manner, above, below):
-    c = fraction(above[0])
-    d = fraction(below[0])
-    cover = {
-        "over": c + d - c * d,
-        "multiply": c + d - c * d,
-        "screen": c + d - c * d,
-        "plus": min(Fraction(1), c + d),
-        "atop": d,
-        "cut": d * (1 - c),
-    }[manner]
-    colours = []
-    for x, y in zip(fractions_of(above)[1:], fractions_of(below)[1:]):
-        colours.append({
-            "over": x + y * (1 - c),
-            "multiply": x * y + x * (1 - d) + y * (1 - c),
-            "screen": x + y - x * y,
-            "plus": min(Fraction(1), x + y),
-            "atop": x * d + y * (1 - c),
-            "cut": y * (1 - c),
-        }[manner])
-    return tuple(share(part) for part in [cover] + colours)
-
-
-def toned_by_document(rule, spot, strength):
-    cover, red, green, blue = fractions_of(spot)
-    mean = (red + green + blue) / 3
-    by_rule = {
-        "turn": (cover, cover - red, cover - green, cover - blue),
-        "grey": (cover, mean, mean, mean),
-        "round": (cover, green, blue, red),
-    }[rule]
-    weight = fraction(strength)
-    return tuple(share(weight * new + (1 - weight) * old) for new, old in zip(by_rule, fractions_of(spot)))
 
 
 class SpotCase(unittest.TestCase):

@@ -1,0 +1,168 @@
+"""What the document tells, reckoned once more with Python's own fractions and none of the program's functions."""
+
+from fractions import Fraction
+
+from samples import CLEAR, MANNERS, ONE, RULES, fraction, fractions_of, share
+
+
+def is_least_share(thing):
+    """Told without the program's own is_share."""
+    if type(thing) is not tuple or [type(part) for part in thing] != [int, int]:
+        return False
+    return thing[1] > 0 and 0 <= thing[0] <= thing[1] and share(fraction(thing)) == thing
+
+
+def is_sound_spot(thing):
+    """Told without the program's own is_spot."""
+    if type(thing) is not tuple or len(thing) != 4 or not all(is_least_share(part) for part in thing):
+        return False
+    return all(fraction(colour) <= fraction(thing[0]) for colour in thing[1:])
+
+
+def blended_by_document(manner, above, below):
+    c = fraction(above[0])
+    d = fraction(below[0])
+    cover = {
+        "over": c + d - c * d,
+        "multiply": c + d - c * d,
+        "screen": c + d - c * d,
+        "plus": min(Fraction(1), c + d),
+        "atop": d,
+        "cut": d * (1 - c),
+    }[manner]
+    colours = []
+    for x, y in zip(fractions_of(above)[1:], fractions_of(below)[1:]):
+        colours.append({
+            "over": x + y * (1 - c),
+            "multiply": x * y + x * (1 - d) + y * (1 - c),
+            "screen": x + y - x * y,
+            "plus": min(Fraction(1), x + y),
+            "atop": x * d + y * (1 - c),
+            "cut": y * (1 - c),
+        }[manner])
+    return tuple(share(part) for part in [cover] + colours)
+
+
+def toned_by_document(rule, spot, strength):
+    cover, red, green, blue = fractions_of(spot)
+    mean = (red + green + blue) / 3
+    by_rule = {
+        "turn": (cover, cover - red, cover - green, cover - blue),
+        "grey": (cover, mean, mean, mean),
+        "round": (cover, green, blue, red),
+    }[rule]
+    weight = fraction(strength)
+    return tuple(share(weight * new + (1 - weight) * old) for new, old in zip(by_rule, fractions_of(spot)))
+
+
+def is_number(thing, least, greatest):
+    return type(thing) is int and least <= thing <= greatest
+
+
+def is_sound_sheet(thing):
+    if type(thing) is not tuple or len(thing) != 3:
+        return False
+    wide, high, spots = thing
+    if not is_number(wide, 1, 8) or not is_number(high, 1, 8) or type(spots) is not tuple:
+        return False
+    return len(spots) == wide * high and all(is_sound_spot(spot) for spot in spots)
+
+
+def is_sound_picture(thing):
+    """Asked of what the program told, so of tuples alone; a node is asked for as the one node of a picture."""
+    wide, high, nodes = thing
+    names = []
+    sound = is_number(wide, 1, 8) and is_number(high, 1, 8) and are_sound_nodes(nodes, 3, names)
+    return sound and len(set(names)) == len(names)
+
+
+def are_sound_nodes(nodes, deepest, names):
+    return type(nodes) is tuple and deepest >= 0 and all(is_sound_node(node, deepest, names) for node in nodes)
+
+
+def is_sound_node(node, deepest, names):
+    word, name, manner, strength, shown = node[:5]
+    names.append(name)
+    if type(name) is not str or not 1 <= len(name) <= 6 or not (name.isascii() and name.isalpha() and name.islower()):
+        return False
+    if not is_least_share(strength) or type(shown) is not bool:
+        return False
+    if word == "tone":
+        return len(node) == 5 and manner in RULES
+    if word == "group":
+        return len(node) == 6 and manner in MANNERS and are_sound_nodes(node[5], deepest - 1, names)
+    left, top, mask, sheet = node[5:]
+    if word != "layer" or manner not in MANNERS or not is_number(left, -9, 9) or not is_number(top, -9, 9):
+        return False
+    if not is_sound_sheet(sheet):
+        return False
+    return mask is None or (len(mask) == len(sheet[2]) and all(is_least_share(part) for part in mask))
+
+
+def weighted_by_document(spot, *weights):
+    parts = fractions_of(spot)
+    for weight in weights:
+        parts = [part * fraction(weight) for part in parts]
+    return tuple(share(part) for part in parts)
+
+
+def brought_by_document(node, x, y):
+    """What a layer or a group brings to a place, weighted."""
+    if node[0] == "group":
+        return weighted_by_document(shown_by_document(node[5], x, y), node[3])
+    left, top, mask, (wide, high, spots) = node[5:]
+    rows = [spots[row * wide:row * wide + wide] for row in range(high)]
+    for row in range(high):
+        for column in range(wide):
+            if (column + left, row + top) == (x, y):
+                weight = ONE if mask is None else mask[row * wide + column]
+                return weighted_by_document(rows[row][column], weight, node[3])
+    return CLEAR
+
+
+def shown_by_document(nodes, x, y):
+    spot = CLEAR
+    for node in nodes:
+        if not node[4]:
+            continue
+        if node[0] == "tone":
+            spot = toned_by_document(node[2], spot, node[3])
+        else:
+            spot = blended_by_document(node[2], brought_by_document(node, x, y), spot)
+    return spot
+
+
+def places_by_document(picture):
+    wide, high, nodes = picture
+    return [(x, y) for y in range(high) for x in range(wide)]
+
+
+def flat_by_document(picture):
+    spots = tuple(shown_by_document(picture[2], x, y) for x, y in places_by_document(picture))
+    return (picture[0], picture[1], spots)
+
+
+def all_brought(picture, node):
+    return [brought_by_document(node, x, y) for x, y in places_by_document(picture)]
+
+
+def covers_by_document(picture, node):
+    if node[0] == "tone" or not node[4] or node[2] != "over":
+        return False
+    return all(spot[0] == ONE for spot in all_brought(picture, node))
+
+
+def needless_by_document(picture, nodes):
+    names = []
+    for number, node in enumerate(nodes):
+        grounds = [
+            not node[4],
+            node[3] == (0, 1),
+            node[0] != "tone" and all(spot == CLEAR for spot in all_brought(picture, node)),
+            any(covers_by_document(picture, above) for above in nodes[number + 1:]),
+        ]
+        if any(grounds):
+            names.append(node[1])
+        elif node[0] == "group":
+            names.extend(needless_by_document(picture, node[5]))
+    return names

@@ -166,3 +166,32 @@ def needless_by_document(picture, nodes):
         elif node[0] == "group":
             names.extend(needless_by_document(picture, node[5]))
     return names
+
+
+def box_round(places):
+    """The least box that holds all of some places."""
+    if not places:
+        return None
+    columns = [x for x, y in places]
+    rows = [y for x, y in places]
+    return (min(columns), min(rows), max(columns) - min(columns) + 1, max(rows) - min(rows) + 1)
+
+
+def places_of_box(box):
+    if box is None:
+        return []
+    left, top, wide, high = box
+    return [(x, y) for y in range(top, top + high) for x in range(left, left + wide)]
+
+
+def box_by_document(picture, node):
+    everywhere = places_by_document(picture)
+    if not node[4]:
+        return None
+    if node[0] == "tone":
+        return box_round(everywhere)
+    if node[0] == "layer":
+        left, top, mask, (wide, high, spots) = node[5:]
+        return box_round([(x, y) for x, y in everywhere if 0 <= x - left < wide and 0 <= y - top < high])
+    boxes = [box_by_document(picture, inner) for inner in node[5] if inner[0] != "tone"]
+    return box_round([place for box in boxes for place in places_of_box(box)])

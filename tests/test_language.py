@@ -5,9 +5,13 @@ import re
 import unittest
 from pathlib import Path
 
-from language import PYTHON_NAMES, faults
+from language import DUNDERS, METHODS, PYTHON_NAMES, faults
 
 PACKAGE = Path(__file__).resolve().parent.parent / "glazework"
+
+# What Python's own values have as a method or a value is not free for the package's classes.
+NAMES_OF_VALUES = set(dir(str) + dir(int) + dir(list) + dir(dict) + dir(set) + dir(bytes) + dir(tuple) + ["args"])
+VALUES_ALLOWED = set("count index title find get join lower upper split strip copy add".split())
 
 SAMPLES = (
     ("import glazework.errors\n", "L6"),
@@ -69,6 +73,27 @@ def names_defined(path):
     return names
 
 
+def methods_and_values(trees):
+    """The names of all methods, and those of all values that are given to objects, of the whole package."""
+    methods, values = set(), set()
+    for tree in trees:
+        for node in ast.walk(tree):
+            if isinstance(node, ast.ClassDef):
+                methods.update(part.name for part in node.body if isinstance(part, ast.FunctionDef))
+            if isinstance(node, ast.Attribute) and isinstance(node.ctx, ast.Store):
+                values.add(node.attr)
+    return methods - set(DUNDERS), values
+
+
+def class_faults(trees):
+    """The names of methods and values that L18 or L26 does not leave free."""
+    methods, values = methods_and_values(trees)
+    told = methods & values
+    told |= methods & NAMES_OF_VALUES - METHODS - {"add", "discard"}
+    told |= values & NAMES_OF_VALUES - VALUES_ALLOWED
+    return told
+
+
 class Language(unittest.TestCase):
     def test_every_file_keeps_to_the_rules(self):
         for path in files():
@@ -102,6 +127,18 @@ class Language(unittest.TestCase):
             self.assertTrue(free, sorted(path.name for path in draws))
             for path in free:
                 draws.pop(path)
+
+    def test_methods_and_values_have_free_names(self):
+        self.assertEqual(class_faults([ast.parse(path.read_text(encoding="utf-8")) for path in files()]), set())
+
+    def test_the_look_finds_names_that_are_not_free(self):
+        for body, name in (
+            ("def now(self):\n        self.now = 1\n", "now"),
+            ("def put(self):\n        self.items = 1\n", "items"),
+            ("def title(self):\n        return 1\n", "title"),
+            ("def put(self):\n        self.args = 1\n", "args"),
+        ):
+            self.assertEqual(class_faults([ast.parse("class A:\n    " + body)]), {name})
 
 
 if __name__ == "__main__":

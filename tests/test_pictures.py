@@ -89,8 +89,8 @@ class IsNode(NodeCase):
             for strength in STRENGTHS:
                 self.accepted(node[:3] + (strength,) + node[4:])
             self.refused_at(
-                node, 3, 0, 1, "1", "1/2", (1, 0), (2, 4), (2, 2), (3, 2), (-1, 2), (0, 2), [1, 2], (True, 1), (1, True),
-                None, True, (), (1,), (1, 2, 3), CLEAR,
+                node, 3, 0, 1, "1", "1/2", (1, 0), (2, 4), (2, 2), (3, 2), (-1, 2), (0, 2), [1, 2], (True, 1),
+                (1, True), None, True, (), (1,), (1, 2, 3), CLEAR,
             )
 
     def test_shown(self):
@@ -111,8 +111,8 @@ class IsNode(NodeCase):
         for mask in (None, (ZERO, ONE), (HALF, HALF), ((1, 3), (5, 7))):
             self.accepted(LAYER[:7] + (mask,) + LAYER[8:])
         self.refused_at(
-            LAYER, 7, (), (ONE,), (ONE, ONE, ONE), (ONE,) * 4, [ONE, ONE], (ONE, 1), (1, 1), (ONE, (2, 4)), (ONE, (3, 2)),
-            (ONE, None), (None, None), ONE, 0, 1, True, False, "", "ab", CLEAR, (ONE, [1, 2]), ([0, 1], ONE),
+            LAYER, 7, (), (ONE,), (ONE, ONE, ONE), (ONE,) * 4, [ONE, ONE], (ONE, 1), (1, 1), (ONE, (2, 4)),
+            (ONE, (3, 2)), (ONE, None), (None, None), ONE, 0, 1, True, False, "", "ab", CLEAR, (ONE, [1, 2]), ([0, 1], ONE),
         )
 
     def test_the_sheet(self):
@@ -130,7 +130,8 @@ class IsNode(NodeCase):
         self.accepted(group("b", (layer("c"), layer("d"), tone("e"), group("f"))))
         self.refused_at(
             GROUP, 5, None, 0, True, "", "layer", [], [layer("c")], layer("c"), tone("c"), group("c"), (None,), ((),),
-            ([],), (layer("c"), None), (list(layer("c")),), (layer("c")[:8],), (tone("c", "over"),), (layer("c", (1, 1)),),
+            ([],), (layer("c"), None), (list(layer("c")),), (layer("c")[:8],), (tone("c", "over"),),
+            (layer("c", (1, 1)),),
         )
 
     def test_too_few_or_too_many_parts(self):

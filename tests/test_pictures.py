@@ -112,7 +112,8 @@ class IsNode(NodeCase):
             self.accepted(LAYER[:7] + (mask,) + LAYER[8:])
         self.refused_at(
             LAYER, 7, (), (ONE,), (ONE, ONE, ONE), (ONE,) * 4, [ONE, ONE], (ONE, 1), (1, 1), (ONE, (2, 4)),
-            (ONE, (3, 2)), (ONE, None), (None, None), ONE, 0, 1, True, False, "", "ab", CLEAR, (ONE, [1, 2]), ([0, 1], ONE),
+            (ONE, (3, 2)), (ONE, None), (None, None), ONE, 0, 1, True, False, "", "ab", CLEAR, (ONE, [1, 2]),
+            ([0, 1], ONE),
         )
 
     def test_the_sheet(self):

@@ -3,16 +3,20 @@
 from glazework.shares import ONE
 
 
+def kind_of(node):
+    return node[0]
+
+
 def is_layer(node):
-    return node[0] == "layer"
+    return kind_of(node) == "layer"
 
 
 def is_group(node):
-    return node[0] == "group"
+    return kind_of(node) == "group"
 
 
 def is_tone(node):
-    return node[0] == "tone"
+    return kind_of(node) == "tone"
 
 
 def name_of(node):
@@ -53,6 +57,30 @@ def sheet_of(layer):
 
 def inner_nodes(group):
     return group[5]
+
+
+def place_of(layer):
+    return (left_of(layer), top_of(layer))
+
+
+def with_manner(node, manner):
+    return node[:2] + (manner,) + node[3:]
+
+
+def with_strength(node, strength):
+    return node[:3] + (strength,) + node[4:]
+
+
+def with_shown(node, shown):
+    return node[:4] + (shown,) + node[5:]
+
+
+def with_place(layer, place):
+    return layer[:5] + place + layer[7:]
+
+
+def with_sheet(layer, sheet):
+    return layer[:8] + (sheet,)
 
 
 def with_inner_nodes(group, nodes):

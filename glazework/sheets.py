@@ -40,6 +40,11 @@ def spot_at(sheet, x, y):
     return sheet[2][number_of_place(sheet, x, y)]
 
 
+def with_spot(sheet, x, y, spot):
+    number = number_of_place(sheet, x, y)
+    return (sheet[0], sheet[1], sheet[2][:number] + (spot,) + sheet[2][number + 1:])
+
+
 def plain_sheet(wide, high, spot):
     return (wide, high, (spot,) * (wide * high))
 

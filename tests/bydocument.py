@@ -195,3 +195,131 @@ def box_by_document(picture, node):
         return box_round([(x, y) for x, y in everywhere if 0 <= x - left < wide and 0 <= y - top < high])
     boxes = [box_by_document(picture, inner) for inner in node[5] if inner[0] != "tone"]
     return box_round([place for box in boxes for place in places_of_box(box)])
+
+
+def names_within(node):
+    inner = node[5] if node[0] == "group" else ()
+    return [node[1]] + [name for part in inner for name in names_within(part)]
+
+
+def changed_by_document(node, deed):
+    """The node with new where it has old, None where it has something else or has not this."""
+    parts = list(node)
+    old, new = deed[-2:]
+    places = {"strength": [3], "shown": [4], "manner": [2], "place": [5, 6]}
+    kinds = {"manner": ("layer", "group"), "place": ("layer",), "spot": ("layer",)}
+    if node[0] not in kinds.get(deed[0], ("layer", "group", "tone")):
+        return None
+    if deed[0] == "spot":
+        wide, high, spots = node[8]
+        rows = [list(spots[row * wide:row * wide + wide]) for row in range(high)]
+        x, y = deed[2:4]
+        if x >= wide or y >= high or rows[y][x] != old:
+            return None
+        rows[y][x] = new
+        return node[:8] + ((wide, high, tuple(spot for row in rows for spot in row)),)
+    if deed[0] != "place":
+        old, new = (old,), (new,)
+    if tuple(parts[place] for place in places[deed[0]]) != old:
+        return None
+    for place, value in zip(places[deed[0]], new):
+        parts[place] = value
+    return tuple(parts)
+
+
+def moved_by_document(nodes, deed):
+    """The nodes with one put among them, or without one, None where the deed does not fit."""
+    word, parent, number, node = deed
+    nodes = list(nodes)
+    if word == "put":
+        if number > len(nodes):
+            return None
+        nodes.insert(number, node)
+        return tuple(nodes)
+    if number >= len(nodes) or nodes[number] != node:
+        return None
+    nodes.pop(number)
+    return tuple(nodes)
+
+
+def node_by_document(node, deed):
+    """The node once the deed was done upon it or within it, None where it does not fit."""
+    if deed[1] == node[1]:
+        if deed[0] not in ("put", "out"):
+            return changed_by_document(node, deed)
+        if node[0] != "group":
+            return None
+        nodes = moved_by_document(node[5], deed)
+        return None if nodes is None else node[:5] + (nodes,)
+    if node[0] != "group":
+        return node
+    nodes = [node_by_document(inner, deed) for inner in node[5]]
+    return None if None in nodes else node[:5] + (tuple(nodes),)
+
+
+def done_by_document(picture, deed):
+    """The picture once the deed was done, None where it does not fit."""
+    wide, high, nodes = picture
+    names = [name for node in nodes for name in names_within(node)]
+    if deed[1] == "":
+        nodes = moved_by_document(nodes, deed)
+    elif deed[1] not in names:
+        return None
+    else:
+        nodes = [node_by_document(node, deed) for node in nodes]
+    if nodes is None or None in nodes:
+        return None
+    told = (wide, high, tuple(nodes))
+    return told if is_sound_picture(told) else None
+
+
+def exchanged_by_document(one, other):
+    """Ground by ground, in the document's order; then the numbers, by where the nodes stand."""
+    moves = [deed[0] in ("put", "out") for deed in (one, other)]
+    if moves == [False, False]:
+        return None if one[:-2] == other[:-2] else (other, one)
+    for deed, second in ((one, other), (other, one)):
+        if deed[0] in ("put", "out") and second[1] in names_within(deed[3]):
+            return None
+    if moves != [True, True]:
+        return (other, one)
+    if set(names_within(one[3])) & set(names_within(other[3])):
+        return None
+    if one[1] != other[1]:
+        return (other, one)
+    first, second = one[2], other[2]
+    if (one[0], other[0]) == ("put", "out") and first - second in (-1, 0, 1):
+        return None
+    if (one[0], other[0]) == ("out", "put") and first == second:
+        return None
+    steps = {"put": 1, "out": -1}
+    if second < first or (second == first and other[0] == "put"):
+        first += steps[other[0]]
+    else:
+        second -= steps[one[0]]
+    return (other[:2] + (second,) + other[3:], one[:2] + (first,) + one[3:])
+
+
+def share_by_document(share):
+    return {(0, 1): "0", (1, 1): "1"}.get(share, "{}/{}".format(*share))
+
+
+def sheet_by_document(sheet):
+    wide, high, spots = sheet
+    return ["{}x{}".format(wide, high)] + [":".join(map(share_by_document, spot)) for spot in spots]
+
+
+def node_words_by_document(node):
+    words = [node[0], node[1], node[2], share_by_document(node[3]), {True: "+", False: "-"}[node[4]]]
+    if node[0] == "layer":
+        mask = "." if node[7] is None else ",".join(map(share_by_document, node[7]))
+        words += [str(node[5]), str(node[6]), mask] + sheet_by_document(node[8])
+    if node[0] == "group":
+        words += ["["] + [word for inner in node[5] for word in node_words_by_document(inner)] + ["]"]
+    return words
+
+
+def written_by_document(picture):
+    wide, high, nodes = picture
+    words = ["{}x{}".format(wide, high)] + [word for node in nodes for word in node_words_by_document(node)]
+    return " ".join(words)

@@ -147,8 +147,9 @@ def statements(tree):
             yield node.lineno, "L2"
         if isinstance(node, ast.Expr) and not isinstance(node.value, ast.Call) and node is not tree.body[0]:
             yield node.lineno, "L6"
-        if isinstance(node, ast.Assign) and (len(node.targets) > 1 or isinstance(node.targets[0], (ast.Tuple, ast.List))):
-            yield node.lineno, "L6"
+        if isinstance(node, ast.Assign):
+            if len(node.targets) > 1 or isinstance(node.targets[0], (ast.Tuple, ast.List)):
+                yield node.lineno, "L6"
         if isinstance(node, (ast.For, ast.While)) and node.orelse:
             yield node.lineno, "L6"
         if isinstance(node, ast.Try) and node.finalbody:
@@ -175,8 +176,8 @@ def expressions(tree):
         if isinstance(node, ast.Compare):
             sides = [node.left] + node.comparators
             for place, sign in enumerate(node.ops):
-                known = [part for part in sides[place:place + 2] if isinstance(part, ast.Constant)]
-                if isinstance(sign, (ast.Is, ast.IsNot)) and not any(part.value in (None, True, False) for part in known):
+                known = [part.value for part in sides[place:place + 2] if isinstance(part, ast.Constant)]
+                if isinstance(sign, (ast.Is, ast.IsNot)) and not any(value in (None, True, False) for value in known):
                     yield number, "L20"
         if isinstance(node, ast.BinOp) and isinstance(node.op, ast.Pow):
             if not isinstance(node.right, ast.Constant) or not 0 <= node.right.value <= 64:

@@ -94,6 +94,9 @@ def picture(wide, high, nodes=()):
     return (wide, high, tuple(nodes))
 
 
+NEW_NAMES = tuple("xyz" + one + other for one in "abcdefgh" for other in "ijklmnop")
+
+
 class Draws:
     """Numbers that are the same each time, so that a test that fails once fails again."""
 
@@ -148,6 +151,43 @@ class Draws:
 
     def nodes(self, names, wide, high, deepest):
         return [self.node(names, wide, high, deepest) for _ in range(self.below(4))]
+
+    def put(self, one, parents):
+        parent, beside = self.one_of(parents)
+        taken = [node[1] for node, nodes in all_nodes(one[2])]
+        names = [name for name in NEW_NAMES if name not in taken]
+        names = names[self.below(3):]
+        return ("put", parent, self.below(len(beside) + 1), self.node(names, 1, 1, 1))
+
+    def out(self, one, parents):
+        parent, beside = self.one_of([(name, nodes) for name, nodes in parents if nodes])
+        number = self.below(len(beside))
+        return ("out", parent, number, beside[number])
+
+    def spot_deed(self, node):
+        wide, high, spots = node[8]
+        number = self.below(len(spots))
+        return ("spot", node[1], number % wide, number // wide, spots[number], self.one_of(SPOTS))
+
+    def deed(self, one):
+        """A deed that fits a picture, but for groups that would stand too deep."""
+        nodes = [node for node, beside in all_nodes(one[2])]
+        parents = [("", one[2])] + [(node[1], node[5]) for node in nodes if node[0] == "group"]
+        kind = self.below(9)
+        if kind < 3 or not nodes:
+            return self.put(one, parents)
+        if kind < 5:
+            return self.out(one, parents)
+        node = self.one_of(nodes)
+        if node[0] == "layer" and kind == 5:
+            return ("place", node[1], node[5:7], (self.below(19) - 9, self.below(19) - 9))
+        if node[0] == "layer" and kind == 6:
+            return self.spot_deed(node)
+        if node[0] != "tone" and kind == 7:
+            return ("manner", node[1], node[2], self.one_of(MANNERS))
+        if self.below(2):
+            return ("shown", node[1], node[4], not node[4])
+        return ("strength", node[1], node[3], self.one_of(STRENGTHS))
 
     def picture(self):
         names = [one + other for one in "abcdefghij" for other in "klmnopqrst"]

@@ -3,9 +3,11 @@
 from glazework.shares import is_whole
 from glazework.spots import CLEAR, blended, is_spot
 
+GREATEST = 8
+
 
 def is_size(thing):
-    return is_whole(thing) and 1 <= thing <= 8
+    return is_whole(thing) and 1 <= thing <= GREATEST
 
 
 def is_sized(thing):
@@ -20,6 +22,10 @@ def is_sheet(thing):
         return False
     spots = thing[2]
     return len(spots) == thing[0] * thing[1] and all([is_spot(spot) for spot in spots])
+
+
+def are_of_one_size(one, other):
+    return one[0] == other[0] and one[1] == other[1]
 
 
 def places_of(wide, high):

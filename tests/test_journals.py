@@ -8,7 +8,7 @@ from bydocument import done_by_document, exchanged_by_document
 from glazework.errors import Held, NoDeed, NotSo
 from glazework.journals import Journal
 from samples import (
-    CLEAR, HALF, ONE, PALE, PICTURES, RED, WHITE, ZERO,
+    CLEAR, HALF, ONE, PICTURES, RED, WHITE, ZERO,
     Draws, group, layer, picture, plain, tone,
 )
 

@@ -9,7 +9,7 @@ from glazework.pictures import is_picture
 from glazework.reading import read
 from glazework.writing import written
 from samples import (
-    BROAD, CLEAR, HALF, HUGE, MANNERS, ONE, PALE, PICTURES, RED, RULES, SPOTS, STRENGTHS, WHITE, ZERO,
+    BROAD, CLEAR, HALF, MANNERS, ONE, PALE, PICTURES, RED, RULES, SPOTS, STRENGTHS, WHITE, ZERO,
     Draws, group, layer, picture, plain, tone,
 )
 
@@ -378,7 +378,6 @@ class AllPictures(TextCase):
         self.assertGreater(refusals, 500)
 
     def test_huge_spots(self):
-        self.assertGreater(HUGE, 10 ** 200)
         one = picture(1, 1, (layer("a", plain(2, 2, SPOTS[10])), layer("b", plain(1, 1, RED))))
         self.goes(one, written_by_document(one))
 
